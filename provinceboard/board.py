@@ -105,6 +105,19 @@ class Board:
         self.by_word[province.short] = len(self.provinces)
         self.provinces.append(province)
 
+    def is_free_for(self, number, word):
+        return self.by_word.get(word, number) == number
+
+    # Both old words go before a new one comes: the new name may be the old short name.
+    def rename(self, number, name, short):
+        province = self.provinces[number]
+        self.by_word.pop(province.name)
+        self.by_word.pop(province.short)
+        province.name = name
+        province.short = short
+        self.by_word[name] = number
+        self.by_word[short] = number
+
     def put_link(self, links, first, second):
         links.put(first, second)
         self.either.put((first[0], 0), (second[0], 0))

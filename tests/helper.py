@@ -43,9 +43,40 @@ def far(how, i, s, j, u):
     return [7, how, i, s, j, u]
 
 
+def way(how, i, s, j, u):
+    return [8, how, i, s, j, u]
+
+
+def symmetry(*provinces):
+    return [9, len(provinces)] + list(provinces)
+
+
+def rename(i, name, short):
+    return [10, i] + row(name) + row(short)
+
+
+def starts():
+    return [11]
+
+
+def homes(k):
+    return [12, k]
+
+
+def parts():
+    return [13]
+
+
+def counts():
+    return [14]
+
+
 def run(*calls):
     """Each call's answer, as a list; the counts before them must add up."""
-    given = answers([number for call in calls for number in call])
+    handed = [number for call in calls for number in call]
+    assert 1 <= len(calls) <= 400 and len(handed) <= 17000, "a list that may not be handed in"
+    assert sum(call[0] in (0, 1) for call in calls) <= 40, "a list that may not be handed in"
+    given = answers(handed)
     assert isinstance(given, list)
     assert all(type(number) is int for number in given)
     taken = []

@@ -26,6 +26,14 @@ BARRED_NODES = (
     ast.AsyncFunctionDef, ast.AsyncFor, ast.AsyncWith, ast.SetComp, ast.DictComp, ast.GeneratorExp, ast.NamedExpr,
     ast.Starred, ast.Div, ast.Import, ast.AnnAssign, ast.Set)
 
+WALKED = "zip enumerate reversed range items keys values".split()
+WALKERS = "list tuple dict sorted sum any all enumerate zip".split()
+
+
+def called(node):
+    """The name that a call goes by, with what stands before its dot left out."""
+    return node.func.id if isinstance(node.func, ast.Name) else getattr(node.func, "attr", None)
+
 
 def trees():
     return [(path, ast.parse(path.read_text(encoding="ascii"))) for path in FILES]
@@ -86,6 +94,26 @@ class Language(unittest.TestCase):
         for name, node in nodes(ast.Constant):
             self.assertIn(type(node.value), (int, str, bool, type(None)), (name, node.lineno))
             self.assertNotIn("%", str(node.value), (name, node.lineno))
+
+    def test_walked_at_once(self):
+        for path, tree in trees():
+            walked = [node.iter for node in ast.walk(tree) if isinstance(node, (ast.For, ast.comprehension))]
+            for node in ast.walk(tree):
+                if isinstance(node, ast.Call) and isinstance(node.func, ast.Name) and node.func.id in WALKERS and node.args:
+                    walked.append(node.args[0])
+            for node in ast.walk(tree):
+                if isinstance(node, ast.Call) and called(node) in WALKED:
+                    self.assertIn(node, walked, (path.name, node.lineno))
+
+    def test_sets_and_is(self):
+        for path, tree in trees():
+            asked = [node.args[0] for node in ast.walk(tree) if isinstance(node, ast.Call) and node.args
+                     and called(node) in ("sorted", "len") and not node.keywords]
+            for node in ast.walk(tree):
+                if isinstance(node, ast.Call) and called(node) in ("set", "frozenset"):
+                    self.assertIn(node, asked, (path.name, node.lineno))
+                if isinstance(node, ast.Compare) and isinstance(node.ops[0], (ast.Is, ast.IsNot)):
+                    self.assertIsInstance(node.comparators[0], ast.Constant, (path.name, node.lineno))
 
     def test_tops(self):
         for path, tree in trees():
